@@ -1,0 +1,1 @@
+"""One tree edited on two sides, and merged by its nodes."""
