@@ -136,6 +136,10 @@ class Grammar(unittest.TestCase):
         for text in ("v", "0.v", "1.w", "2.v"):
             self.fits(frame.format(text), 2, 3)
         self.refuses(*[frame.format(text) for text in ("w", "0.w", "1.v", "2.w", "3.v", "3.w")])
+        frame = frame.replace("r S: T S", "r S: S T")
+        for text in ("v", "0.v", "1.v", "2.w"):
+            self.fits(frame.format(text), 2, 3)
+        self.refuses(*[frame.format(text) for text in ("w", "0.w", "1.w", "2.v", "3.v", "3.w")])
 
     def test_the_number_only_where_nodes_hold_one(self):
         self.fits("S > v; p S #: { v = #; ? # < 1; }", 1, 1)

@@ -85,6 +85,24 @@ class Signs(unittest.TestCase):
                 self.assertEqual(is_grammar(list(b"S > ; p S: { }") + [byte]), [-2])
                 self.assertEqual(is_grammar(list(b"S > ; ") + [byte] + list(b" p S: { }")), [-2])
                 self.assertEqual(last(grammar(EXAMPLE), tree(list(b"lit 3") + [byte])), [-4])
+                # Nor is it a letter, wherever a great or a small name would do.
+                for name in ([byte], [65, byte], [byte, 65]):
+                    self.assertEqual(is_grammar(name + list(b" > ; p ") + name + list(b": { }")), [-2])
+                for name in ([byte], [97, byte], [byte, 97], [97, byte, 49]):
+                    self.assertEqual(is_grammar(list(b"S > ; ") + name + list(b" S: { }")), [-2])
+
+    def test_all_letters_and_digits_make_names(self):
+        for byte in list(range(65, 91)) + list(range(97, 123)):
+            for name in ([byte], [byte, 48], [byte, byte]):
+                great = byte < 97
+                first = name if great else [83]
+                second = name if not great else [112]
+                self.assertEqual(is_grammar(first + list(b" > ; ") + second + [32] + first + list(b": { }")), OK)
+                self.assertEqual(is_grammar(second + list(b" > ; ") + first + [32] + second + list(b": { }")), [-2])
+                if not great:
+                    rules = list(b"S > ; ") + second + list(b" S #: { }")
+                    self.assertEqual(last(grammar(rules), tree(second + list(b" 1234567890")), form(0)),
+                                     bytes(name).decode() + " 1234567890")
 
     def test_all_signs_of_expressions(self):
         text = "- ! # + v - 1 * 2 / 3 % 4 = [ 5 , 6 ] & ( 7 < 8 ) | 0.v"
