@@ -48,6 +48,34 @@ def form(which):
     return [6, which]
 
 
+def nodes(which):
+    return [7, which]
+
+
+def changes(side):
+    return [8, side]
+
+
+def conflicts():
+    return [9]
+
+
+def merge():
+    return [10]
+
+
+def origin():
+    return [11]
+
+
+def accept():
+    return [12]
+
+
+def reset(side):
+    return [13, side]
+
+
 def parted(told):
     found = []
     place = 0
@@ -69,7 +97,7 @@ def ask(*calls):
     if len(found) != len(calls):
         raise AssertionError("not one answer a call")
     for k, call in enumerate(calls):
-        if call[0] == 6 and found[k][0] == 0:
+        if call[0] in (6, 10) and found[k][0] == 0:
             found[k] = bytes(found[k][1:]).decode("ascii")
     return found
 
@@ -112,3 +140,15 @@ def wide(nodes):
 def written(node):
     name = ("l", "u", "p", "t")[len(node)]
     return name + ("(" + ",".join(written(child) for child in node) + ")" if node else "")
+
+
+def told(*things):
+    """What changes or conflicts answers of these, three numbers each."""
+    return [0] + [value for thing in things for value in thing]
+
+
+def all_of_them(side=None):
+    """Calls that tell all there is to know, or all of one side."""
+    if side is not None:
+        return [form(side), nodes(side), changes(side)]
+    return [call for which in (0, 1) for call in all_of_them(which)] + [form(2), nodes(2), conflicts(), merge(), origin()]

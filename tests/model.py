@@ -336,10 +336,13 @@ class Model:
     def symbol(self, node):
         return {production[0]: production[1] for production in self.found[1]}[node[0]]
 
-    def walk(self, node, path=()):
-        yield path, node
-        for k, child in enumerate(node[2]):
-            yield from self.walk(child, path + (k,))
+    def walk(self, root):
+        found, waiting = [], [((), root)]
+        while waiting:
+            path, node = waiting.pop()
+            found.append((path, node))
+            waiting += [(path + (k,), node[2][k]) for k in reversed(range(len(node[2])))]
+        return found
 
     def where(self, side, number):
         if side not in (0, 1):
@@ -432,3 +435,112 @@ class Model:
         if self.trees is None:
             return -5
         return list(form(self.trees[which]).encode()) if which in (0, 1, 2) else -13
+
+    def nodes(self, which):
+        if self.trees is None:
+            return -5
+        return [node[3] for path, node in self.walk(self.trees[which])] if which in (0, 1, 2) else -13
+
+    def facts(self, which):
+        """A tree as facts: what each node holds, and which node stands at each place; the root's place is (-1, 0)."""
+        holds = {node[3]: node[1] for path, node in self.walk(self.trees[which])}
+        stands = {(-1, 0): self.trees[which][3]}
+        for path, node in self.walk(self.trees[which]):
+            for k, child in enumerate(node[2]):
+                stands[node[3], k + 1] = child[3]
+        return holds, stands
+
+    def told_changes(self, side):
+        (base_holds, base_stands), (holds, stands) = self.facts(2), self.facts(side)
+        found = {(1, node, 0) for node in holds if node in base_holds and holds[node] != base_holds[node]}
+        found |= {(2,) + place for place in stands if place in base_stands and stands[place] != base_stands[place]}
+        found |= {(3, node, 0) for node in set(base_holds) - set(holds)}
+        found |= {(4, node, 0) for node in set(holds) - set(base_holds)}
+        return found
+
+    def changes(self, side):
+        if self.trees is None:
+            return -5
+        if side not in (0, 1):
+            return -13
+        return [number for change in sorted(self.told_changes(side)) for number in change]
+
+    def merge_facts(self, first, second, base, key):
+        """The merged one of what three trees say of this, and whether they clash."""
+        if key not in base:
+            return (first if key in first else second)[key], False
+        first, second = first.get(key, base[key]), second.get(key, base[key])
+        if first == base[key]:
+            return second, False
+        if second in (base[key], first):
+            return first, False
+        return first, True
+
+    def merged(self):
+        """The merged tree as its nodes' names, what they hold, and which stands at each place; and the conflicts."""
+        names = {node[3]: node[0] for which in (0, 1, 2) for path, node in self.walk(self.trees[which])}
+        counts = {node[3]: len(node[2]) for which in (0, 1, 2) for path, node in self.walk(self.trees[which])}
+        three_holds, three_stands = zip(*[self.facts(which) for which in (0, 1, 2)])
+        holds, stands, found = {}, {}, set()
+        places = [(-1, 0)]
+        while places:
+            place = places.pop()
+            stands[place], clash = self.merge_facts(*three_stands, place)
+            if clash:
+                found.add((2,) + place)
+            node = stands[place]
+            if node not in holds:
+                holds[node], clash = self.merge_facts(*three_holds, node)
+                if clash:
+                    found.add((1, node, 0))
+                places += [(node, k) for k in range(1, counts[node] + 1)]
+        nodes = list(stands.values())
+        found |= {(3, node, 0) for node in nodes if nodes.count(node) > 1}
+        for side in (0, 1):
+            worked = {change[1] for change in self.told_changes(side) if change[0] != 3 and change[1] >= 0}
+            found |= {(4, node, 0) for node in worked - set(nodes)}
+        return names, counts, holds, stands, found
+
+    def grown(self, merged, node):
+        names, counts, holds, stands, found = merged
+        children = [self.grown(merged, stands[node, k]) for k in range(1, counts[node] + 1)]
+        return [names[node], holds[node], children, node]
+
+    def conflicts(self):
+        if self.trees is None:
+            return -5
+        return [number for conflict in sorted(self.merged()[-1]) for number in conflict]
+
+    def whole(self):
+        """The merged tree, or why it can't be had."""
+        if self.trees is None:
+            return -5
+        merged = self.merged()
+        if merged[-1]:
+            return -17
+        found = self.grown(merged, merged[3][-1, 0])
+        return -9 if size(found) > 60 or depth(found) > 24 else found
+
+    def merge(self):
+        found = self.whole()
+        return found if isinstance(found, int) else list(form(found).encode())
+
+    def origin(self):
+        found = self.whole()
+        return found if isinstance(found, int) else [node[3] for path, node in self.walk(found)]
+
+    def accept(self):
+        found = self.whole()
+        if isinstance(found, int):
+            return found
+        self.trees = [numbered(found, 0), numbered(found, 0), numbered(found, 0)]
+        self.given = [0, 0]
+        return [size(found)]
+
+    def reset(self, side):
+        if self.trees is None:
+            return -5
+        if side not in (0, 1):
+            return -13
+        self.trees[side] = self.trees[2]
+        return []

@@ -1,10 +1,12 @@
 """The one way in: a list of calls on an object that is new, and the list of what they answer."""
 
-from treemerge.edits import LONGEST_TEXT, ThreeTrees, lift, replace, set_number, swap
+from treemerge.edits import LONGEST_TEXT, ThreeTrees, lift, replace, reset, set_number, swap
 from treemerge.grammars import read_grammar
-from treemerge.refusals import NO_GRAMMAR, NO_GRAMMAR_HELD, NO_SUCH_SIDE, NO_TREE, NO_TREES_HELD, TEXT_TOO_LONG
+from treemerge.merging import merge_of, refusal_of
+from treemerge.refusals import NO_GRAMMAR, NO_GRAMMAR_HELD, NO_TREE, NO_TREES_HELD, TEXT_TOO_LONG
+from treemerge.tellings import tell_changes, tell_conflicts, tell_form, tell_merge, tell_nodes, tell_origin
 from treemerge.tokens import Unreadable
-from treemerge.trees import form_of, read_tree
+from treemerge.trees import read_tree, renumbered
 
 GRAMMAR = 0
 TREE = 1
@@ -12,6 +14,13 @@ REPLACE = 2
 NUMBER = 3
 SWAP = 4
 LIFT = 5
+FORM = 6
+NODES = 7
+CHANGES = 8
+CONFLICTS = 9
+MERGE = 10
+ORIGIN = 11
+ACCEPT = 12
 
 # By a call's number: how many whole numbers stand behind it, and whether a text stands behind these.
 SHAPES = {
@@ -22,6 +31,13 @@ SHAPES = {
     4: (3, False),
     5: (2, False),
     6: (1, False),
+    7: (1, False),
+    8: (1, False),
+    9: (0, False),
+    10: (0, False),
+    11: (0, False),
+    12: (0, False),
+    13: (1, False),
 }
 
 
@@ -62,6 +78,14 @@ def answer_of(desk, call, numbers, text):
         return take_tree(desk, text)
     if desk.trees is None:
         return [NO_TREES_HELD]
+    if call in (FORM, NODES, CHANGES):
+        return answer_of_one_tree(desk.trees, call, numbers[0])
+    if call in (CONFLICTS, MERGE, ORIGIN, ACCEPT):
+        return answer_of_merge(desk, call)
+    return answer_of_edit(desk, call, numbers, text)
+
+
+def answer_of_edit(desk, call, numbers, text):
     if call == REPLACE:
         return replace(desk.trees, desk.grammar, numbers[0], numbers[1], text)
     if call == NUMBER:
@@ -70,7 +94,25 @@ def answer_of(desk, call, numbers, text):
         return swap(desk.trees, numbers[0], numbers[1], numbers[2])
     if call == LIFT:
         return lift(desk.trees, numbers[0], numbers[1])
-    return tell_form(desk.trees, numbers[0])
+    return reset(desk.trees, numbers[0])
+
+
+def answer_of_one_tree(trees, call, which):
+    if call == FORM:
+        return tell_form(trees, which)
+    if call == NODES:
+        return tell_nodes(trees, which)
+    return tell_changes(trees, which)
+
+
+def answer_of_merge(desk, call):
+    if call == CONFLICTS:
+        return tell_conflicts(desk.trees)
+    if call == MERGE:
+        return tell_merge(desk.trees)
+    if call == ORIGIN:
+        return tell_origin(desk.trees)
+    return accept(desk)
 
 
 def take_grammar(desk, text):
@@ -94,12 +136,18 @@ def take_tree(desk, text):
         base = read_tree(text, desk.grammar, 0)
     except Unreadable:
         return [NO_TREE]
+    return begin_with(desk, base)
+
+
+def accept(desk):
+    merge = merge_of(desk.trees)
+    refusal = refusal_of(merge)
+    if refusal != 0:
+        return [refusal]
+    return begin_with(desk, renumbered(merge.tree))
+
+
+def begin_with(desk, base):
+    """Hold this tree as the base and as the tree of both sides, and tell how many nodes it has."""
     desk.trees = ThreeTrees(base)
     return [0, len(base.nodes)]
-
-
-def tell_form(trees, which):
-    if which not in (0, 1, 2):
-        return [NO_SUCH_SIDE]
-    tree = (trees.sides + [trees.base])[which]
-    return [0] + [ord(sign) for sign in form_of(tree, tree.root)]

@@ -104,3 +104,12 @@ def lift(trees, side, number):
         return [MAY_NOT_STAND_THERE]
     trees.sides[side] = rebuilt(tree.root, tree.nodes, {parent: number})
     return [0]
+
+
+def reset(trees, side):
+    refusal = unknown(trees, side, [])
+    if refusal != 0:
+        return [refusal]
+    # What was given stays given, so that no number comes to mean another node.
+    trees.sides[side] = trees.base
+    return [0]

@@ -110,6 +110,16 @@ def with_value(tree, number, value):
     return Tree(tree.root, nodes)
 
 
+def renumbered(tree):
+    """The tree with its nodes numbered from 0 on, in their order."""
+    numbers = dict([(number, k) for k, number in enumerate(tree.nodes)])
+    nodes = {}
+    for number, node in tree.nodes.items():
+        children = [numbers[child] for child in node.children]
+        nodes[numbers[number]] = Node(node.production, node.value, children)
+    return Tree(0, nodes)
+
+
 def parent_of(tree, number):
     """The number of the node's parent, None of the root."""
     for other, node in tree.nodes.items():
